@@ -5,6 +5,7 @@ arrow: from where, then to where.
 """
 
 NOT_A_GRAPH = -22
+NO_SUCH_MAP = -33
 MOST_PLACES = 5
 
 
@@ -61,3 +62,13 @@ def count(n, m, first, second):
     if not is_graph(n, first) or not is_graph(m, second):
         return [NOT_A_GRAPH]
     return [len(maps_in_order(n, m, first, second))]
+
+
+def nth(n, m, k, first, second):
+    """How many places the first graph has, then the map before which there are k."""
+    if not is_graph(n, first) or not is_graph(m, second):
+        return [NOT_A_GRAPH]
+    maps = maps_in_order(n, m, first, second)
+    if k >= len(maps):
+        return [NO_SUCH_MAP]
+    return [n] + maps[k]

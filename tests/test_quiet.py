@@ -23,6 +23,9 @@ class Quiet(unittest.TestCase):
         with contextlib.redirect_stdout(out), contextlib.redirect_stderr(out):
             graphs.count(2, 3, [0, 1], [0, 1, 1, 2])
             graphs.count(0, 3, [0, 1], [0, 1, 1, 2])
+            graphs.nth(2, 3, 1, [0, 1], [0, 1, 1, 2])
+            graphs.nth(2, 3, 2, [0, 1], [0, 1, 1, 2])
+            graphs.nth(0, 3, 1, [0, 1], [0, 1, 1, 2])
         self.assertEqual(out.getvalue(), "")
 
 
