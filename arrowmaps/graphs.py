@@ -32,11 +32,38 @@ def arrow_table(arrows):
     return table
 
 
-def keeps_arrows(given, arrows, table):
+def all_in_table(arrows, table):
     for i in range(0, len(arrows), 2):
-        if (given[arrows[i]], given[arrows[i + 1]]) not in table:
+        if (arrows[i], arrows[i + 1]) not in table:
             return False
     return True
+
+
+def what_becomes(arrows, given):
+    """What the arrows become by what each place gets."""
+    # A list may be too short to be a map, and its arrows are still asked for: a place that it doesn't tell gets 0.
+    return [given[place] if place < len(given) else 0 for place in arrows]
+
+
+def keeps_arrows(given, arrows, table):
+    return all_in_table(what_becomes(arrows, given), table)
+
+
+def gives_places(given, n, m):
+    """Whether that list gives each of n places one of m."""
+    return len(given) == n and max(given) < m
+
+
+def gives_none_twice(given):
+    return len(set(given)) == len(given)
+
+
+def gives_each(given, m):
+    return all([place in given for place in range(m)])
+
+
+def hits_each_arrow(given, first, second):
+    return all_in_table(second, arrow_table(what_becomes(first, given)))
 
 
 def lists_in_order(n, m):
@@ -72,3 +99,16 @@ def nth(n, m, k, first, second):
     if k >= len(maps):
         return [NO_SUCH_MAP]
     return [n] + maps[k]
+
+
+def is_map(n, m, first, second, mapping):
+    """Whether that list is a map, gives no number twice, gives each place, hits each arrow: each as 1 or 0."""
+    if not is_graph(n, first) or not is_graph(m, second):
+        return [NOT_A_GRAPH]
+    fits = gives_places(mapping, n, m) and keeps_arrows(mapping, first, arrow_table(second))
+    return [
+        int(fits),
+        int(gives_none_twice(mapping)),
+        int(gives_each(mapping, m)),
+        int(hits_each_arrow(mapping, first, second)),
+    ]

@@ -1,4 +1,4 @@
-"""What several tests need: graphs, wrong graphs, and a plain second way to find maps."""
+"""What several tests need: graphs, wrong graphs, and a plain second way to find what is answered."""
 
 import itertools
 
@@ -134,6 +134,19 @@ def plain_maps(first_graph, second_graph):
         for given in itertools.product(reversed(range(m)), repeat=n)
         if {(given[u], given[v]) for u, v in pairs_of(first)} <= there
     )
+
+
+def plain_is(first_graph, second_graph, given, maps):
+    """The four numbers of is_map by the document's words; maps: all those of the first graph into the second."""
+    m, second = second_graph
+    gets = dict(enumerate(given))
+    became = {(gets.get(u, 0), gets.get(v, 0)) for u, v in pairs_of(first_graph[1])}
+    return [
+        1 if list(given) in maps else 0,
+        1 if not any(given.count(number) > 1 for number in given) else 0,
+        1 if set(range(m)) - set(given) == set() else 0,
+        1 if set(pairs_of(second)) - became == set() else 0,
+    ]
 
 
 def some_pairs():

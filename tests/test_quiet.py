@@ -26,6 +26,9 @@ class Quiet(unittest.TestCase):
             graphs.nth(2, 3, 1, [0, 1], [0, 1, 1, 2])
             graphs.nth(2, 3, 2, [0, 1], [0, 1, 1, 2])
             graphs.nth(0, 3, 1, [0, 1], [0, 1, 1, 2])
+            graphs.is_map(2, 3, [0, 1], [0, 1, 1, 2], [1, 2])
+            graphs.is_map(2, 3, [0, 1], [0, 1, 1, 2], [9])
+            graphs.is_map(0, 3, [0, 1], [0, 1, 1, 2], [1, 2])
         self.assertEqual(out.getvalue(), "")
 
 
