@@ -112,3 +112,17 @@ def is_map(n, m, first, second, mapping):
         int(gives_each(mapping, m)),
         int(hits_each_arrow(mapping, first, second)),
     ]
+
+
+def kinds(n, m, first, second):
+    """How many maps; how many of them give no place twice, give each place, give each and hit each arrow."""
+    if not is_graph(n, first) or not is_graph(m, second):
+        return [NOT_A_GRAPH]
+    maps = maps_in_order(n, m, first, second)
+    giving_each = [given for given in maps if gives_each(given, m)]
+    return [
+        len(maps),
+        len([given for given in maps if gives_none_twice(given)]),
+        len(giving_each),
+        len([given for given in giving_each if hits_each_arrow(given, first, second)]),
+    ]

@@ -149,6 +149,17 @@ def plain_is(first_graph, second_graph, given, maps):
     ]
 
 
+def plain_kinds(first_graph, second_graph):
+    maps = plain_maps(first_graph, second_graph)
+    of_each = [plain_is(first_graph, second_graph, given, maps) for given in maps]
+    return [
+        len(maps),
+        sum(none_twice for fits, none_twice, each, hit in of_each),
+        sum(each for fits, none_twice, each, hit in of_each),
+        sum(each * hit for fits, none_twice, each, hit in of_each),
+    ]
+
+
 def some_pairs():
     """Pairs of graphs of 3 to 5 places, thin ones into thick ones so that some have maps; always the same."""
     state = 1

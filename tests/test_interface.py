@@ -7,6 +7,7 @@ PARAMETERS = {
     "count": ["n", "m", "first", "second"],
     "nth": ["n", "m", "k", "first", "second"],
     "is_map": ["n", "m", "first", "second", "mapping"],
+    "kinds": ["n", "m", "first", "second"],
 }
 
 

@@ -29,6 +29,8 @@ class Quiet(unittest.TestCase):
             graphs.is_map(2, 3, [0, 1], [0, 1, 1, 2], [1, 2])
             graphs.is_map(2, 3, [0, 1], [0, 1, 1, 2], [9])
             graphs.is_map(0, 3, [0, 1], [0, 1, 1, 2], [1, 2])
+            graphs.kinds(2, 3, [0, 1], [0, 1, 1, 2])
+            graphs.kinds(0, 3, [0, 1], [0, 1, 1, 2])
         self.assertEqual(out.getvalue(), "")
 
 
