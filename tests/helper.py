@@ -63,6 +63,37 @@ class Untouched(list):
     append = extend = insert = pop = remove = clear = sort = reverse = refuse
 
 
+class RefusesWrongGraphs:
+    """The tests of -22 for a call of two graphs; answers tells what it gives back, with each k or list beside them."""
+
+    def answers(self, first_graph, second_graph):
+        raise NotImplementedError
+
+    def check_refused(self, first_graph, second_graph, refused=True):
+        answers = self.answers(first_graph, second_graph)
+        self.assertGreater(len(answers), 0)
+        for answer in answers:
+            self.assertEqual(answer == [-22], refused, (first_graph, second_graph, answers))
+
+    def test_wrong_graphs(self):
+        for wrong in WRONG_GRAPHS:
+            for right in (DOT, LOOP, full(5)):
+                self.check_refused(wrong, right)
+                self.check_refused(right, wrong)
+
+    def test_both_are_wrong(self):
+        for first_graph, second_graph in itertools.product(WRONG_GRAPHS, repeat=2):
+            self.check_refused(first_graph, second_graph)
+
+    def test_short_lists_are_refused_just_where_they_are_no_graph(self):
+        for places, length in itertools.product((0, 1, 2, 3), range(7)):
+            for numbers in itertools.product(range(3), repeat=length):
+                graph = (places, list(numbers))
+                refused = not plain_is_graph(places, list(numbers))
+                self.check_refused(graph, LOOP, refused)
+                self.check_refused(DOT, graph, refused)
+
+
 def graph_of(places, bits):
     """The graph with an arrow for each bit that is set, told rising."""
     arrows = []

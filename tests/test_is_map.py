@@ -242,26 +242,9 @@ class WrongLists(ListsTest):
             self.check((5, []), (place + 1, []), given, [0, 1, 0, 1])
 
 
-class Refusals(unittest.TestCase):
-    def test_wrong_graphs(self):
-        for wrong, mapping in itertools.product(helper.WRONG_GRAPHS, ANY_LISTS):
-            for right in (helper.DOT, helper.LOOP, helper.full(5)):
-                self.assertEqual(is_map_of(wrong, right, mapping), [-22], (wrong, mapping))
-                self.assertEqual(is_map_of(right, wrong, mapping), [-22], (wrong, mapping))
-
-    def test_both_are_wrong(self):
-        for first_graph, second_graph in itertools.product(helper.WRONG_GRAPHS, repeat=2):
-            for mapping in ANY_LISTS:
-                self.assertEqual(is_map_of(first_graph, second_graph, mapping), [-22])
-
-    def test_short_lists_are_refused_just_where_they_are_no_graph(self):
-        for places, length in itertools.product((0, 1, 2, 3), range(7)):
-            for numbers in itertools.product(range(3), repeat=length):
-                arrows = list(numbers)
-                refused = not helper.plain_is_graph(places, arrows)
-                for mapping in ([], [0]):
-                    self.assertEqual(is_map(places, 1, arrows, [0, 0], mapping) == [-22], refused, (places, arrows))
-                    self.assertEqual(is_map(1, places, [], arrows, mapping) == [-22], refused, (places, arrows))
+class Refusals(helper.RefusesWrongGraphs, unittest.TestCase):
+    def answers(self, first_graph, second_graph):
+        return [is_map_of(first_graph, second_graph, mapping) for mapping in ANY_LISTS]
 
     def test_no_list_is_refused(self):
         for mapping in ANY_LISTS:

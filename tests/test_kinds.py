@@ -196,24 +196,9 @@ class Edges(KindsTest):
         self.check((3, [0, 0, 1, 1]), (2, [0, 0, 1, 1]), [8, 0, 6, 4])
 
 
-class Refusals(unittest.TestCase):
-    def test_wrong_graphs(self):
-        for wrong in helper.WRONG_GRAPHS:
-            for right in (helper.DOT, helper.LOOP, helper.full(5)):
-                self.assertEqual(kinds_of(wrong, right), [-22], wrong)
-                self.assertEqual(kinds_of(right, wrong), [-22], wrong)
-
-    def test_both_are_wrong(self):
-        for first_graph, second_graph in itertools.product(helper.WRONG_GRAPHS, repeat=2):
-            self.assertEqual(kinds_of(first_graph, second_graph), [-22])
-
-    def test_short_lists_are_refused_just_where_they_are_no_graph(self):
-        for places, length in itertools.product((0, 1, 2, 3), range(7)):
-            for numbers in itertools.product(range(3), repeat=length):
-                arrows = list(numbers)
-                refused = not helper.plain_is_graph(places, arrows)
-                self.assertEqual(kinds(places, 1, arrows, [0, 0]) == [-22], refused, (places, arrows))
-                self.assertEqual(kinds(1, places, [], arrows) == [-22], refused, (places, arrows))
+class Refusals(helper.RefusesWrongGraphs, unittest.TestCase):
+    def answers(self, first_graph, second_graph):
+        return [kinds_of(first_graph, second_graph)]
 
 
 class Calls(unittest.TestCase):

@@ -113,27 +113,10 @@ class Edges(MapsTest):
         self.assertEqual(nth_of(helper.ring(3), helper.path(3), 0), [-33])
 
 
-class Refusals(unittest.TestCase):
-    def test_wrong_graphs(self):
+class Refusals(helper.RefusesWrongGraphs, unittest.TestCase):
+    def answers(self, first_graph, second_graph):
         # With each k, those that are too great among them: -22 is told ahead of -33.
-        for wrong, k in itertools.product(helper.WRONG_GRAPHS, (0, 1, 3125, helper.GREATEST)):
-            for right in (helper.DOT, helper.LOOP, helper.full(3)):
-                self.assertEqual(nth_of(wrong, right, k), [-22], (wrong, k))
-                self.assertEqual(nth_of(right, wrong, k), [-22], (wrong, k))
-
-    def test_both_are_wrong(self):
-        for first_graph, second_graph in itertools.product(helper.WRONG_GRAPHS, repeat=2):
-            for k in (0, helper.GREATEST):
-                self.assertEqual(nth_of(first_graph, second_graph, k), [-22])
-
-    def test_short_lists_are_refused_just_where_they_are_no_graph(self):
-        for places, length in itertools.product((0, 1, 2, 3), range(7)):
-            for numbers in itertools.product(range(3), repeat=length):
-                arrows = list(numbers)
-                refused = not helper.plain_is_graph(places, arrows)
-                for k in (0, helper.GREATEST):
-                    self.assertEqual(nth(places, 1, k, arrows, [0, 0]) == [-22], refused, (places, arrows))
-                    self.assertEqual(nth(1, places, k, [], arrows) == [-22], refused, (places, arrows))
+        return [nth_of(first_graph, second_graph, k) for k in (0, 1, 3125, helper.GREATEST)]
 
 
 class Calls(unittest.TestCase):
