@@ -66,6 +66,11 @@ def hits_each_arrow(given, first, second):
     return all_in_table(second, arrow_table(what_becomes(first, given)))
 
 
+def only_renames(given, m, first, second):
+    """Whether the graphs are the same but for names by that map."""
+    return gives_none_twice(given) and gives_each(given, m) and hits_each_arrow(given, first, second)
+
+
 def lists_in_order(n, m):
     """All lists of n places out of m."""
     # Each list is followed by its own longer ones, the lesser first, so the order holds at every length.
@@ -126,3 +131,13 @@ def kinds(n, m, first, second):
         len(giving_each),
         len([given for given in giving_each if hits_each_arrow(given, first, second)]),
     ]
+
+
+def same(n, m, first, second):
+    """How many places the graphs have, then the first map by which they are the same but for names."""
+    if not is_graph(n, first) or not is_graph(m, second):
+        return [NOT_A_GRAPH]
+    for given in maps_in_order(n, m, first, second):
+        if only_renames(given, m, first, second):
+            return [n] + given
+    return [NO_SUCH_MAP]

@@ -191,6 +191,20 @@ def plain_kinds(first_graph, second_graph):
     ]
 
 
+def renamed(graph, names):
+    """The same graph, in which each place is called by what stands for it in names."""
+    places, arrows = graph
+    return from_pairs(places, [(names[u], names[v]) for u, v in pairs_of(arrows)])
+
+
+def plain_same(first_graph, second_graph):
+    """What same answers: the first of all ways to rename the first graph that make it the second."""
+    for names in itertools.permutations(range(first_graph[0])):
+        if renamed(first_graph, names) == second_graph:
+            return [len(names)] + list(names)
+    return [-33]
+
+
 def some_pairs():
     """Pairs of graphs of 3 to 5 places, thin ones into thick ones so that some have maps; always the same."""
     state = 1

@@ -8,6 +8,7 @@ PARAMETERS = {
     "nth": ["n", "m", "k", "first", "second"],
     "is_map": ["n", "m", "first", "second", "mapping"],
     "kinds": ["n", "m", "first", "second"],
+    "same": ["n", "m", "first", "second"],
 }
 
 

@@ -31,6 +31,9 @@ class Quiet(unittest.TestCase):
             graphs.is_map(0, 3, [0, 1], [0, 1, 1, 2], [1, 2])
             graphs.kinds(2, 3, [0, 1], [0, 1, 1, 2])
             graphs.kinds(0, 3, [0, 1], [0, 1, 1, 2])
+            graphs.same(2, 2, [0, 1], [1, 0])
+            graphs.same(2, 3, [0, 1], [0, 1, 1, 2])
+            graphs.same(0, 3, [0, 1], [0, 1, 1, 2])
         self.assertEqual(out.getvalue(), "")
 
 
