@@ -5,6 +5,7 @@ arrow: from where, then to where.
 """
 
 NOT_A_GRAPH = -22
+NOT_A_MAP = -13
 NO_SUCH_MAP = -33
 MOST_PLACES = 5
 
@@ -52,6 +53,11 @@ def keeps_arrows(given, arrows, table):
 def gives_places(given, n, m):
     """Whether that list gives each of n places one of m."""
     return len(given) == n and max(given) < m
+
+
+def maps_into(given, n, m, first, second):
+    """Whether that list, of any length and with any numbers, is a map of the first graph into the second."""
+    return gives_places(given, n, m) and keeps_arrows(given, first, arrow_table(second))
 
 
 def gives_none_twice(given):
@@ -110,9 +116,8 @@ def is_map(n, m, first, second, mapping):
     """Whether that list is a map, gives no number twice, gives each place, hits each arrow: each as 1 or 0."""
     if not is_graph(n, first) or not is_graph(m, second):
         return [NOT_A_GRAPH]
-    fits = gives_places(mapping, n, m) and keeps_arrows(mapping, first, arrow_table(second))
     return [
-        int(fits),
+        int(maps_into(mapping, n, m, first, second)),
         int(gives_none_twice(mapping)),
         int(gives_each(mapping, m)),
         int(hits_each_arrow(mapping, first, second)),
@@ -141,3 +146,12 @@ def same(n, m, first, second):
         if only_renames(given, m, first, second):
             return [n] + given
     return [NO_SUCH_MAP]
+
+
+def after(n, m, o, first, second, third, behind, mapping):
+    """How many places the first graph has, then what each gets by mapping, and that by behind."""
+    if not is_graph(n, first) or not is_graph(m, second) or not is_graph(o, third):
+        return [NOT_A_GRAPH]
+    if not maps_into(mapping, n, m, first, second) or not maps_into(behind, m, o, second, third):
+        return [NOT_A_MAP]
+    return [n] + [behind[place] for place in mapping]

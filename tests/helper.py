@@ -52,6 +52,18 @@ WRONG_GRAPHS = [
     (GREATEST, [number for place in range(30) for number in (place // 6, place % 6)]),
 ]
 
+# Lists to go with wrong graphs: none, maps elsewhere, too short, too long, numbers that are no place.
+ANY_LISTS = [
+    [],
+    [0],
+    [0, 0],
+    [0, 1],
+    [0, 1, 2, 3, 4],
+    [0, 1, 2, 3, 4, 5, 6, 7],
+    [GREATEST],
+    [GREATEST] * 8,
+]
+
 
 class Untouched(list):
     """A list that fails the test as soon as anything changes it."""
@@ -203,6 +215,15 @@ def plain_same(first_graph, second_graph):
         if renamed(first_graph, names) == second_graph:
             return [len(names)] + list(names)
     return [-33]
+
+
+def plain_after(graphs, behind, mapping):
+    """What after answers of three graphs, by what is told of each place."""
+    first_graph, second_graph, third_graph = graphs
+    if mapping not in plain_maps(first_graph, second_graph) or behind not in plain_maps(second_graph, third_graph):
+        return [-13]
+    by_behind = dict(enumerate(behind))
+    return [first_graph[0]] + [by_behind[place] for place in mapping]
 
 
 def some_pairs():

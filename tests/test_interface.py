@@ -9,6 +9,7 @@ PARAMETERS = {
     "is_map": ["n", "m", "first", "second", "mapping"],
     "kinds": ["n", "m", "first", "second"],
     "same": ["n", "m", "first", "second"],
+    "after": ["n", "m", "o", "first", "second", "third", "behind", "mapping"],
 }
 
 

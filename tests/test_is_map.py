@@ -4,18 +4,6 @@ import unittest
 from arrowmaps.graphs import count, is_map, nth
 from tests import helper
 
-# Lists to go with wrong graphs: none, maps elsewhere, too short, too long, numbers that are no place.
-ANY_LISTS = [
-    [],
-    [0],
-    [0, 0],
-    [0, 1],
-    [0, 1, 2, 3, 4],
-    [0, 1, 2, 3, 4, 5, 6, 7],
-    [helper.GREATEST],
-    [helper.GREATEST] * 8,
-]
-
 
 def is_map_of(first_graph, second_graph, mapping):
     n, first = first_graph
@@ -244,10 +232,10 @@ class WrongLists(ListsTest):
 
 class Refusals(helper.RefusesWrongGraphs, unittest.TestCase):
     def answers(self, first_graph, second_graph):
-        return [is_map_of(first_graph, second_graph, mapping) for mapping in ANY_LISTS]
+        return [is_map_of(first_graph, second_graph, mapping) for mapping in helper.ANY_LISTS]
 
     def test_no_list_is_refused(self):
-        for mapping in ANY_LISTS:
+        for mapping in helper.ANY_LISTS:
             for first_graph, second_graph in itertools.product((helper.DOT, helper.LOOP, helper.full(5)), repeat=2):
                 self.assertEqual(len(is_map_of(first_graph, second_graph, mapping)), 4)
 
@@ -256,7 +244,7 @@ class Calls(unittest.TestCase):
     def test_what_is_handed_in_is_not_changed(self):
         graphs = [helper.LOOP, helper.full(5), helper.path(3)] + helper.WRONG_GRAPHS
         for (n, first), (m, second) in itertools.product(graphs, repeat=2):
-            for mapping in ANY_LISTS:
+            for mapping in helper.ANY_LISTS:
                 kept = [helper.Untouched(numbers) for numbers in (first, second, mapping)]
                 is_map(n, m, kept[0], kept[1], kept[2])
                 self.assertEqual(kept, [first, second, mapping])
